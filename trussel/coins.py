@@ -1,11 +1,13 @@
 """Coins, and what the marks of a list of them tell of their dies."""
 
-from trussel.errors import BadCoin, BadSide, NoDie, TooMany
-from trussel.wear import good_marks, number_from, within
+from trussel.errors import BadCoin, BadSide, NoDie, NoPlace, TooMany
+from trussel.wear import good_marks, is_number, number_from, within
 
 MOST_COINS = 9
 LAST_DIE = 99
 LAST_YEAR = 9999
+
+SIDES = ("lower", "upper")
 
 # Where a coin has its die of a side; the marks of that die stand right behind it.
 DIE_FIELDS = {"lower": 0, "upper": 2}
@@ -29,11 +31,27 @@ def check_coins(coins):
             raise BadCoin(f"there is no good coin at place {place}")
 
 
+def check_place(coins, place):
+    """Refuse a number that is no coin's place."""
+    if not number_from(place, 0, len(coins) - 1):
+        raise NoPlace("no coin has that place")
+
+
 def die_field(side):
     """Where a coin has its die of that side; refuse what is no side."""
     if side not in DIE_FIELDS:
         raise BadSide("a side is lower or upper")
     return DIE_FIELDS[side]
+
+
+def places_of(coins, word, thing):
+    """The places of the coins that are meant by a place (the word is coin) or by a die of a side."""
+    if not is_number(thing):
+        return []
+    if word == "coin":
+        return [place for place in range(len(coins)) if place == thing]
+    field = die_field(word)
+    return [place for place, coin in enumerate(coins) if coin[field] == thing]
 
 
 def dies_of(coins, side):
@@ -65,7 +83,7 @@ def at_odds(coins):
     """The first pair at odds as (side, i, j), the lower side first, or None."""
     check_coins(coins)
     places = list(range(len(coins)))
-    for side in ("lower", "upper"):
+    for side in SIDES:
         pair = pair_at_odds(coins, places, die_field(side))
         if pair is not None:
             return (side, pair[0], pair[1])
@@ -76,7 +94,7 @@ def stages(coins, side, die):
     """The places of a die's coins by their marks, as these grow; None where two are at odds."""
     check_coins(coins)
     field = die_field(side)
-    places = [place for place, coin in enumerate(coins) if coin[field] == die]
+    places = places_of(coins, side, die)
     if not places:
         raise NoDie("no coin is of that die")
     if pair_at_odds(coins, places, field) is not None:

@@ -3,10 +3,15 @@
 LAST_SPOT = 7
 
 
+def is_number(thing):
+    """Whether it is a whole number."""
+    # Python counts True and False as 1 and 0; here they are no numbers.
+    return isinstance(thing, int) and not isinstance(thing, bool)
+
+
 def number_from(number, least, most):
     """Whether it is a whole number from least to most."""
-    # Python counts True and False as 1 and 0; here they are no numbers.
-    return isinstance(number, int) and not isinstance(number, bool) and least <= number <= most
+    return is_number(number) and least <= number <= most
 
 
 def good_marks(marks):
