@@ -87,6 +87,20 @@ def plain_may_follow(coins, anvils, rules, stand, place):
     return not plain_faults(coins, anvils, rules, ahead + [place] + behind, len(ahead))
 
 
+def plain_bars(coins, anvils, rules, stands):
+    """Whether it is a paper, word by word."""
+    every = 2 ** len(coins) - 1
+    if stands != sorted(set(stands)) or 0 not in stands or every in stands:
+        return False
+    if not all(0 <= stand <= every for stand in stands):
+        return False
+    return all(
+        stand + 2 ** place in stands
+        for stand in stands for place in range(len(coins))
+        if plain_may_follow(coins, anvils, rules, stand, place)
+    )
+
+
 def some_rules(chance, coins):
     """None to three good rules, also twice and against one another."""
     rules = []

@@ -54,6 +54,12 @@ def places_of(coins, word, thing):
     return [place for place, coin in enumerate(coins) if coin[field] == thing]
 
 
+def check_die(coins, side, die):
+    """Refuse a die of that side that no coin has."""
+    if not places_of(coins, side, die):
+        raise NoDie("no coin is of that die")
+
+
 def dies_of(coins, side):
     """The dies of that side that the coins have, rising, each once."""
     check_coins(coins)
@@ -94,9 +100,8 @@ def stages(coins, side, die):
     """The places of a die's coins by their marks, as these grow; None where two are at odds."""
     check_coins(coins)
     field = die_field(side)
+    check_die(coins, side, die)
     places = places_of(coins, side, die)
-    if not places:
-        raise NoDie("no coin is of that die")
     if pair_at_odds(coins, places, field) is not None:
         return None
     by_marks = {}

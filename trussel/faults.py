@@ -94,11 +94,16 @@ class Bounds:
         self.needed_by_place = needed_stands(coins, rules)
 
 
-def bounds_of(coins, anvils, rules):
-    """The bounds of these coins; refuse bad coins, then bad anvils, then bad rules."""
+def check_asked(coins, anvils, rules):
+    """Refuse bad coins, then bad anvils, then bad rules."""
     check_coins(coins)
     check_anvils(anvils)
     check_rules(coins, rules)
+
+
+def bounds_of(coins, anvils, rules):
+    """The bounds of these coins, behind the refusals of what is bad."""
+    check_asked(coins, anvils, rules)
     return Bounds(coins, anvils, rules)
 
 

@@ -41,13 +41,17 @@ def numbered_order(bounds, ways, number):
     return order
 
 
-def least_order(coins, anvils, rules):
-    """The least order, or None."""
-    bounds = bounds_of(coins, anvils, rules)
+def first_order(bounds):
+    """The least order of coins of these bounds, or None."""
     ways = ways_on(bounds)
     if ways[0] == 0:
         return None
     return numbered_order(bounds, ways, 0)
+
+
+def least_order(coins, anvils, rules):
+    """The least order, or None."""
+    return first_order(bounds_of(coins, anvils, rules))
 
 
 def how_many(coins, anvils, rules):
