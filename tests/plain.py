@@ -130,6 +130,43 @@ def some_cases(many, most_coins):
     return cases
 
 
+def mint_seen(mint):
+    """All that a mint tells of itself."""
+    return {
+        "anvils": mint.anvils(),
+        "lower": [mint.marks("lower", die) for die in range(1, mint.dies("lower") + 1)],
+        "upper": [mint.marks("upper", die) for die in range(1, mint.dies("upper") + 1)],
+        "states": [mint.state(die) for die in range(1, mint.dies("lower") + 1)],
+        "year": mint.year(),
+        "coins": [mint.coin(number) for number in range(mint.struck())],
+    }
+
+
+def some_deed(chance, year):
+    """A deed of a mint that is somewhat further on; many are refused."""
+    return chance.choice((
+        ("cut", chance.choice(("lower", "upper"))),
+        ("fix", chance.randint(1, 9)),
+        ("fix", chance.randint(1, 9)),
+        ("off", chance.randint(1, 30)),
+        ("mark", chance.choice(("lower", "upper")), chance.randint(1, 9), chance.randint(0, 7)),
+        ("strike", chance.randint(1, 9), chance.randint(1, 9)),
+        ("strike", chance.randint(1, 9), chance.randint(1, 9)),
+        ("strike", chance.randint(1, 9), chance.randint(1, 9)),
+        ("year", year + chance.randint(0, 2)),
+    ))
+
+
+def do_at(mint, deed):
+    """Do a ledger's deed at a mint."""
+    word, *things = deed
+    deeds = {
+        "cut": mint.cut, "fix": mint.fix, "off": mint.lay_off, "mark": mint.mark, "strike": mint.strike,
+        "year": mint.begin_year,
+    }
+    return deeds[word](*things)
+
+
 class CoinRefusals:
     """For a TestCase whose asked(coins) tells calls, also with what they refuse themselves."""
 

@@ -21,14 +21,19 @@ def good_coin(coin):
     return good_lower and good_upper and number_from(year, 0, LAST_YEAR)
 
 
+def check_coin(coin):
+    """Refuse what is no coin."""
+    # No refusal shows the refused number: Python does not write very great ones.
+    if not good_coin(coin):
+        raise BadCoin("it is no coin")
+
+
 def check_coins(coins):
     """Refuse a list of too many coins, then one with a bad coin."""
-    # No refusal shows the refused number: Python does not write very great ones.
     if len(coins) > MOST_COINS:
         raise TooMany("at most nine coins are asked about at once")
-    for place, coin in enumerate(coins):
-        if not good_coin(coin):
-            raise BadCoin(f"there is no good coin at place {place}")
+    for coin in coins:
+        check_coin(coin)
 
 
 def check_place(coins, place):
@@ -37,11 +42,21 @@ def check_place(coins, place):
         raise NoPlace("no coin has that place")
 
 
+def check_side(side):
+    """Refuse what is no side."""
+    if side not in SIDES:
+        raise BadSide("a side is lower or upper")
+
+
 def die_field(side):
     """Where a coin has its die of that side; refuse what is no side."""
-    if side not in DIE_FIELDS:
-        raise BadSide("a side is lower or upper")
+    check_side(side)
     return DIE_FIELDS[side]
+
+
+def with_thing(things, at, thing):
+    """The tuple with that thing at that place instead of its own."""
+    return things[:at] + (thing,) + things[at + 1:]
 
 
 def places_of(coins, word, thing):
